@@ -1,0 +1,1 @@
+"""Changeride: rides that never go on with the company they came with."""

@@ -1,0 +1,155 @@
+"""Point 2: what is handed in stays and is not kept, told lists are the asker's own, the same is told again."""
+
+import copy
+import unittest
+
+from changeride.errors import RideError
+from changeride.wants import plan_at, plan_shows, plans_counted, want_at, wants
+from changeride.webs import ends_at, loosened, merged, painted, parts_of, web_of, with_line, without_line
+from tests.samples import FULL, TRIANGLE, TWO_PARTS, WEBS, all_lists, all_tuples
+
+PLAN = [[[[0, 0], [2, 1]]], []]
+
+# Each function with what it is asked of the triangle, rightly and wrongly.
+ASKED = (
+    (ends_at, (0,)),
+    (ends_at, (3,)),
+    (parts_of, ()),
+    (with_line, (0, 2, "a")),
+    (with_line, (0, 3, "A")),
+    (without_line, (1,)),
+    (without_line, (None,)),
+    (painted, (1, "a")),
+    (painted, (1, "A")),
+    (merged, ("a", "b")),
+    (merged, ("a", "B")),
+    (loosened, ([1, 0],)),
+    (loosened, ([1, 2],)),
+    (want_at, (0,)),
+    (want_at, (True,)),
+    (wants, ()),
+    (plan_at, (0,)),
+    (plan_at, ("0",)),
+    (plan_shows, (0, PLAN)),
+    (plan_shows, (0, [[[[0, 0]]], [[2, 1]]])),
+    (plan_shows, (9, PLAN)),
+    (plans_counted, (0,)),
+    (plans_counted, (-1,)),
+)
+
+
+def answer(function, arguments):
+    try:
+        return function(*arguments)
+    except RideError as refusal:
+        return refusal.__class__.__name__
+
+
+def spoil(thing):
+    """Changes every list in it, from within."""
+    if isinstance(thing, (list, tuple)):
+        for one in thing:
+            spoil(one)
+    if isinstance(thing, list):
+        thing.reverse()
+        thing.append("spoilt")
+        del thing[0]
+
+
+class HandedIn(unittest.TestCase):
+    def test_it_stays(self):
+        for function, more in ASKED:
+            arguments = [all_lists(TRIANGLE)] + [copy.deepcopy(one) for one in more]
+            before = copy.deepcopy(arguments)
+            answer(function, arguments)
+            self.assertEqual(repr(arguments), repr(before), function.__name__)
+
+    def test_web_of_leaves_its_lists(self):
+        lines = [[0, 1, "a"], [1, 1, "b"]]
+        web_of(2, lines)
+        self.assertEqual(lines, [[0, 1, "a"], [1, 1, "b"]])
+
+    def test_it_is_not_kept(self):
+        for web in WEBS:
+            lines = all_lists(web[1])
+            told = web_of(web[0], lines)
+            spoil(lines)
+            self.assertEqual(repr(told), repr(web))
+
+    def test_webs_made_keep_nothing_of_it(self):
+        for function, more in ASKED:
+            arguments = [all_lists(TRIANGLE)] + [copy.deepcopy(one) for one in more]
+            told = answer(function, arguments)
+            due = repr(told)
+            spoil(arguments)
+            self.assertEqual(repr(told), due, function.__name__)
+
+    def test_lists_and_tuples_are_the_same(self):
+        for function, more in ASKED:
+            due = repr(answer(function, [TRIANGLE, *more]))
+            self.assertEqual(repr(answer(function, [all_lists(TRIANGLE), *more])), due, function.__name__)
+            self.assertEqual(repr(answer(function, [list(TRIANGLE), *more])), due, function.__name__)
+            self.assertEqual(repr(answer(function, [TRIANGLE, *all_tuples(more)])), due, function.__name__)
+
+
+class ToldLists(unittest.TestCase):
+    def test_changed_they_change_nothing(self):
+        for web in WEBS:
+            for function in (parts_of, wants):
+                self.told_again(function, (web,))
+            for function in (ends_at, plan_at):
+                for place in range(web[0]):
+                    self.told_again(function, (web, place))
+
+    def told_again(self, function, arguments):
+        due = repr(function(*arguments))
+        first = function(*arguments)
+        second = function(*arguments)
+        spoil(first)
+        self.assertEqual(repr(second), due)
+        self.assertEqual(repr(function(*arguments)), due)
+
+    def test_lists_within_one_told_list_are_not_shared(self):
+        for web in WEBS:
+            for place in range(web[0]):
+                pairs, alone = plan_at(web, place)
+                self.assertIsNot(pairs, alone)
+        parts = parts_of(TWO_PARTS)
+        parts[0].append(9)
+        self.assertEqual(parts[1], [1, 3, 4])
+
+    def test_webs_are_tuples_throughout(self):
+        handed = all_lists(TRIANGLE)
+        made = [
+            web_of(*handed),
+            with_line(handed, 0, 0, "a"),
+            without_line(handed, 0),
+            painted(handed, 0, "z"),
+            merged(handed, "a", "b"),
+            merged(handed, "a", "a"),
+            loosened(handed, [0, 0]),
+        ]
+        for web in made:
+            self.assertEqual(repr(web), repr(all_tuples(web)))
+
+
+class AskedAgain(unittest.TestCase):
+    def test_the_same_is_told(self):
+        due = [repr(answer(function, (TRIANGLE, *more))) for function, more in ASKED]
+        for web in (FULL, TWO_PARTS, TRIANGLE):
+            for function, more in reversed(ASKED):
+                answer(function, (web, *more))
+        self.assertEqual([repr(answer(function, (TRIANGLE, *more))) for function, more in ASKED], due)
+
+    def test_big_numbers_are_taken(self):
+        big = 10 ** 30 - 1
+        for function, more in ((ends_at, ()), (want_at, ()), (plan_at, ()), (plans_counted, ()), (plan_shows, (0,))):
+            for number in (big, -big):
+                self.assertEqual(answer(function, (FULL, number, *more)), "NoPlace")
+        self.assertEqual(answer(without_line, (FULL, big)), "NoLine")
+        self.assertEqual(answer(loosened, (FULL, (big, 0))), "NoEnd")
+        self.assertEqual(answer(web_of, (big, [(big - 1, 0, "a")])), (big, ((big - 1, 0, "a"),)))
+
+
+if __name__ == "__main__":
+    unittest.main()
