@@ -65,11 +65,11 @@ def ends_at(web, place):
     return ends_of(lines, place)
 
 
-def head_of(heads, place):
-    """The place that stands for all places known to hang together with this one."""
-    while heads[place] != place:
-        place = heads[place]
-    return place
+def head_of(heads, one):
+    """The one that stands for all that are known to hang together with this one."""
+    while heads[one] != one:
+        one = heads[one]
+    return one
 
 
 def parts_of(web):

@@ -1,7 +1,29 @@
 """Webs and wrong things that several test files use, and slow ways to work an answer out."""
 
+import itertools
+import random
+
 NO_NUMBERS = (True, False, None, "0", "", "a", 0.0, b"0", [], (), [0], (0,), {}, {0: 0})
 NO_COMPANIES = (True, False, None, 0, 1, "", "A", "Z", "aa", "ab", " ", "1", "`", "{", "a ", b"a", ["a"], ("a",), {})
+NO_WEBS = (
+    None,
+    True,
+    0,
+    "",
+    "web",
+    (),
+    [],
+    (1,),
+    (1, (), ()),
+    (True, ()),
+    (-1, ()),
+    ((), 1),
+    (1, None),
+    (1, ((0, 1, "a"),)),
+    (1, ((0, 0, "A"),)),
+    (1, ((0, 0),)),
+    {0: 1, 1: ()},
+)
 NO_ENDS = NO_NUMBERS + (
     0,
     "00",
@@ -87,3 +109,70 @@ def star(companies):
 def knot(companies):
     """A web of one place with a loop of each of the companies."""
     return 1, tuple((0, 0, company) for company in companies)
+
+
+def all_ends(web):
+    return [(number, side) for number in range(len(web[1])) for side in (0, 1)]
+
+
+def follows(web, end, following):
+    """Whether the line begun by the first end ends where the other one begins, and is of another company."""
+    one, other = web[1][end[0]], web[1][following[0]]
+    return one[1 - end[1]] == other[following[1]] and one[2] != other[2]
+
+
+def all_rides(web, begun=()):
+    """Every ride of the web that goes on from what is begun, each once, from the least on."""
+    for end in all_ends(web):
+        if end[0] not in [gone[0] for gone in begun] and (not begun or follows(web, begun[-1], end)):
+            yield [*begun, end]
+            yield from all_rides(web, (*begun, end))
+
+
+def rides_along_all(web):
+    return [ride for ride in all_rides(web) if len(ride) == len(web[1])]
+
+
+def rounds_along_all(web):
+    return [ride for ride in rides_along_all(web) if follows(web, ride[-1], ride[0])]
+
+
+def webs_of(places, many, companies):
+    """Every web of so many places and lines, of each order of the lines one."""
+    lines = list(itertools.product(range(places), range(places), companies))
+    for chosen in itertools.combinations_with_replacement(lines, many):
+        yield places, chosen
+
+
+def webs_in_order(places, many, companies):
+    """Every web of so many places and lines, in each order of the lines."""
+    lines = list(itertools.product(range(places), range(places), companies))
+    for chosen in itertools.product(lines, repeat=many):
+        yield places, chosen
+
+
+def mixed_web(seed, places, many, companies):
+    """A web that looks as if by chance, the same one for the same seed."""
+    chance = random.Random(seed)
+    return places, tuple(
+        (chance.randrange(places), chance.randrange(places), chance.choice(companies)) for _ in range(many)
+    )
+
+
+def round_web(seed, places, many, companies):
+    """A web in mixed order that has a round along all its lines, and that round. Two lines at least."""
+    chance = random.Random(seed)
+    stops = [chance.randrange(places) for _ in range(many)]
+    row = [companies[0]]
+    while len(row) < many:
+        row.append(chance.choice([company for company in companies if company != row[-1]]))
+    if row[-1] == row[0]:
+        row[-1] = [company for company in companies if company not in (row[0], row[-2])][0]
+    sides = [chance.randrange(2) for _ in range(many)]
+    order = list(range(many))
+    chance.shuffle(order)
+    lines = [None] * many
+    for at, number in enumerate(order):
+        one, other = stops[at], stops[(at + 1) % many]
+        lines[number] = (other, one, row[at]) if sides[at] else (one, other, row[at])
+    return (places, tuple(lines)), [(number, sides[at]) for at, number in enumerate(order)]

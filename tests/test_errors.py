@@ -3,7 +3,7 @@
 import inspect
 import unittest
 
-from changeride import errors, wants, webs
+from changeride import errors, rides, riding, told, wants, webs
 
 NAMES = (
     "NoWeb",
@@ -67,6 +67,21 @@ class Interface(unittest.TestCase):
         (wants, "plan_at", "web place"),
         (wants, "plan_shows", "web place plan"),
         (wants, "plans_counted", "web place"),
+        (rides, "ride_is", "web ride"),
+        (rides, "round_is", "web ride"),
+        (rides, "places_of", "web ride"),
+        (rides, "about", "web ride"),
+        (rides, "begun_at", "web ride number"),
+        (rides, "least_round", "web ride"),
+        (rides, "made_one", "web one other"),
+        (riding, "riding_is", "web riding"),
+        (riding, "fewest", "web"),
+        (riding, "riding", "web"),
+        (riding, "shown_by", "web paper"),
+        (riding, "paper_of", "web"),
+        (told, "ride_by", "web first last"),
+        (told, "round_of", "web"),
+        (told, "one_ride", "web"),
     )
 
     def test_functions_have_their_arguments_and_stand_in_their_files(self):
@@ -74,6 +89,12 @@ class Interface(unittest.TestCase):
             function = getattr(module, name)
             self.assertEqual(list(inspect.signature(function).parameters), arguments.split(), name)
             self.assertEqual(function.__module__, module.__name__, name)
+
+    def test_first_and_last_go_by_name_and_may_be_left_out(self):
+        parameters = inspect.signature(told.ride_by).parameters
+        for name in ("first", "last"):
+            self.assertIs(parameters[name].kind, inspect.Parameter.KEYWORD_ONLY)
+            self.assertIsNone(parameters[name].default)
 
     def test_errors_stand_in_their_file(self):
         for name in NAMES + ("RideError",):

@@ -4,11 +4,27 @@ import copy
 import unittest
 
 from changeride.errors import RideError
+from changeride.rides import about, begun_at, least_round, made_one, places_of, ride_is, round_is
+from changeride.riding import fewest, paper_of, riding, riding_is, shown_by
+from changeride.told import one_ride, ride_by, round_of
 from changeride.wants import plan_at, plan_shows, plans_counted, want_at, wants
 from changeride.webs import ends_at, loosened, merged, painted, parts_of, web_of, with_line, without_line
-from tests.samples import FULL, TRIANGLE, TWO_PARTS, WEBS, all_lists, all_tuples
+from tests.samples import ALL_AT_ONE, FULL, TRIANGLE, TWO_PARTS, WEBS, all_lists, all_tuples, knot
 
 PLAN = [[[[0, 0], [2, 1]]], []]
+AROUND = [[0, 0], [1, 0], [2, 0]]
+RIDING = [["ride", [[0, 0], [1, 0]]], ["ride", [[2, 1]]]]
+
+
+def ride_between(web, first, last):
+    return ride_by(web, first=first, last=last)
+
+
+def made_one_beside(web, one, other):
+    """Two rounds made one in the web with the triangle beside itself once more."""
+    places, lines = web
+    return made_one((places, tuple(tuple(line) for line in lines) * 2), one, other)
+
 
 # Each function with what it is asked of the triangle, rightly and wrongly.
 ASKED = (
@@ -35,6 +51,39 @@ ASKED = (
     (plan_shows, (9, PLAN)),
     (plans_counted, (0,)),
     (plans_counted, (-1,)),
+    (ride_is, (AROUND,)),
+    (ride_is, ([[0, 0], [2, 0]],)),
+    (ride_is, ([AROUND],)),
+    (round_is, (AROUND,)),
+    (round_is, (AROUND[:2],)),
+    (places_of, (AROUND,)),
+    (places_of, ([[0, 0], [0, 0]],)),
+    (about, (AROUND,)),
+    (about, ([],)),
+    (begun_at, (AROUND, 0)),
+    (begun_at, (AROUND, 2)),
+    (begun_at, (AROUND, 3)),
+    (begun_at, (AROUND[:2], 3)),
+    (least_round, (AROUND[1:] + AROUND[:1],)),
+    (least_round, (AROUND[1:],)),
+    (made_one, (AROUND, AROUND)),
+    (made_one_beside, (AROUND, [[4, 0], [5, 0], [3, 0]])),
+    (made_one_beside, (AROUND, [[4, 0], [5, 0], [0, 0]])),
+    (riding_is, (RIDING,)),
+    (riding_is, ([["round", AROUND]],)),
+    (riding_is, (RIDING + RIDING,)),
+    (fewest, ()),
+    (riding, ()),
+    (shown_by, ([],)),
+    (shown_by, ([[0, "a"]],)),
+    (paper_of, ()),
+    (ride_between, ([0, 0], [2, 0])),
+    (ride_between, (None, [1, 0])),
+    (ride_between, ([0, 0], None)),
+    (ride_between, ([0, 0], [1, 0])),
+    (ride_between, ([0, 0], [3, 0])),
+    (round_of, ()),
+    (one_ride, ()),
 )
 
 
@@ -95,11 +144,26 @@ class HandedIn(unittest.TestCase):
 class ToldLists(unittest.TestCase):
     def test_changed_they_change_nothing(self):
         for web in WEBS:
-            for function in (parts_of, wants):
+            for function in (parts_of, wants, riding, paper_of, round_of, one_ride):
                 self.told_again(function, (web,))
             for function in (ends_at, plan_at):
                 for place in range(web[0]):
                     self.told_again(function, (web, place))
+
+    def test_changed_rides_change_nothing(self):
+        ring = round_of(ALL_AT_ONE)
+        for function in (places_of, about, least_round):
+            self.told_again(function, (ALL_AT_ONE, ring))
+        self.told_again(begun_at, (ALL_AT_ONE, ring, 0))
+        self.told_again(begun_at, (ALL_AT_ONE, ring, 30))
+        self.told_again(ride_between, (ALL_AT_ONE, ring[0], ring[-1]))
+        self.told_again(made_one, (knot("abab"), [(0, 0), (1, 0)], [(2, 0), (3, 0)]))
+
+    def test_told_is_not_what_was_handed_in(self):
+        ring = [(0, 0), (1, 0), (2, 0)]
+        for told in (begun_at(TRIANGLE, ring, 0), least_round(TRIANGLE, ring)):
+            self.assertEqual(told, ring)
+            self.assertIsNot(told, ring)
 
     def told_again(self, function, arguments):
         due = repr(function(*arguments))
