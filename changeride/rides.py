@@ -31,6 +31,11 @@ def is_ride(lines, thing):
     return all(goes_on(lines, end, following) for end, following in zip(thing[:-1], thing[1:]))
 
 
+def goes_round(lines, way):
+    """Whether a ride along these lines, each gone along once, would go on at each of them, and behind the last one."""
+    return all(goes_on(lines, end, following) for end, following in zip(way, way[1:] + way[:1]))
+
+
 def is_round(lines, thing):
     """Whether it is a round along some of these lines, already checked."""
     return is_ride(lines, thing) and goes_on(lines, thing[-1], thing[0])
@@ -94,10 +99,19 @@ def all_beginnings(ring):
     return [way[number:] + way[:number] for way in (ring, turned_about(ring)) for number in range(len(ring))]
 
 
+def least_of(ring):
+    """The least of all lists that the round is."""
+    # Just one of them begins by the first end of its least line, and that is the least end that any begins by.
+    first = (min(ring)[0], 0)
+    way = ring if first in ring else turned_about(ring)
+    at = way.index(first)
+    return way[at:] + way[:at]
+
+
 def least_round(web, ride):
     """The least of all lists that the round is."""
     _, lines = checked_web(web)
-    return min(all_beginnings(checked_round(lines, ride)))
+    return least_of(checked_round(lines, ride))
 
 
 def may_stand(lines, end, following):

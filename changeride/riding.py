@@ -3,7 +3,7 @@
 from changeride.kinds import is_below, is_row, is_row_of
 from changeride.rides import far_end, is_ride, is_round, taken_in
 from changeride.wants import groups_of, plan_at, want_of, wants
-from changeride.webs import checked_web, ends_of, parts_of
+from changeride.webs import checked_web, ends_of, parts_of, places_in
 
 
 def is_way(lines, thing):
@@ -28,8 +28,7 @@ def rides_for(web, shown):
     _, lines = web
     count = 0
     for part in parts_of(web):
-        places = sorted({place for number in part for place in lines[number][:2]})
-        alone = sum([shown.get(place, 0) for place in places])
+        alone = sum([shown.get(place, 0) for place in places_in(lines, part)])
         count = count + max(1, (alone + 1) // 2)
     return count
 

@@ -87,6 +87,11 @@ def parts_of(web):
     return list(parts.values())
 
 
+def places_in(lines, part):
+    """The places that the lines of a part come to, sorted."""
+    return sorted({place for number in part for place in lines[number][:2]})
+
+
 def with_line(web, one, other, company):
     """The web with a line more, behind the others."""
     places, lines = checked_web(web)

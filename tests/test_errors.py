@@ -3,7 +3,7 @@
 import inspect
 import unittest
 
-from changeride import errors, rides, riding, told, wants, webs
+from changeride import added, desk, errors, rides, riding, texts, told, turnings, wants, webs
 
 NAMES = (
     "NoWeb",
@@ -82,6 +82,17 @@ class Interface(unittest.TestCase):
         (told, "ride_by", "web first last"),
         (told, "round_of", "web"),
         (told, "one_ride", "web"),
+        (added, "new_needed", "web"),
+        (added, "new_lines", "web company"),
+        (turnings, "turnings", "web ride"),
+        (turnings, "turned", "web ride turning"),
+        (turnings, "all_rounds", "web"),
+        (turnings, "row_to", "web one other"),
+        (turnings, "heaps", "web"),
+        (texts, "web_text", "web"),
+        (texts, "ride_text", "ride"),
+        (texts, "read_web", "text"),
+        (texts, "read_ride", "text"),
     )
 
     def test_functions_have_their_arguments_and_stand_in_their_files(self):
@@ -95,6 +106,12 @@ class Interface(unittest.TestCase):
         for name in ("first", "last"):
             self.assertIs(parameters[name].kind, inspect.Parameter.KEYWORD_ONLY)
             self.assertIsNone(parameters[name].default)
+
+    def test_a_desk_is_made_of_nothing_and_says_a_row(self):
+        self.assertEqual(desk.Desk.__module__, "changeride.desk")
+        self.assertEqual(list(inspect.signature(desk.Desk).parameters), [])
+        self.assertIn("say", vars(desk.Desk))
+        self.assertEqual(list(inspect.signature(desk.Desk().say).parameters), ["row"])
 
     def test_errors_stand_in_their_file(self):
         for name in NAMES + ("RideError",):

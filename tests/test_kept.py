@@ -3,10 +3,13 @@
 import copy
 import unittest
 
+from changeride.added import new_lines, new_needed
 from changeride.errors import RideError
 from changeride.rides import about, begun_at, least_round, made_one, places_of, ride_is, round_is
 from changeride.riding import fewest, paper_of, riding, riding_is, shown_by
+from changeride.texts import read_ride, read_web, ride_text, web_text
 from changeride.told import one_ride, ride_by, round_of
+from changeride.turnings import all_rounds, heaps, row_to, turned, turnings
 from changeride.wants import plan_at, plan_shows, plans_counted, want_at, wants
 from changeride.webs import ends_at, loosened, merged, painted, parts_of, web_of, with_line, without_line
 from tests.samples import ALL_AT_ONE, FULL, TRIANGLE, TWO_PARTS, WEBS, all_lists, all_tuples, knot
@@ -24,6 +27,31 @@ def made_one_beside(web, one, other):
     """Two rounds made one in the web with the triangle beside itself once more."""
     places, lines = web
     return made_one((places, tuple(tuple(line) for line in lines) * 2), one, other)
+
+
+def at_one_place(web):
+    """The web with all its places one."""
+    return 1, [(0, 0, line[2]) for line in web[1]]
+
+
+def turnings_at_one_place(web, ride):
+    return turnings(at_one_place(web), ride)
+
+
+def turned_at_one_place(web, ride, turning):
+    return turned(at_one_place(web), ride, turning)
+
+
+def row_at_one_place(web, one, other):
+    return row_to(at_one_place(web), one, other)
+
+
+def rounds_at_one_place(web):
+    return all_rounds(at_one_place(web))
+
+
+def text_of_ride(_, ride):
+    return ride_text(ride)
 
 
 # Each function with what it is asked of the triangle, rightly and wrongly.
@@ -84,6 +112,27 @@ ASKED = (
     (ride_between, ([0, 0], [3, 0])),
     (round_of, ()),
     (one_ride, ()),
+    (new_needed, ()),
+    (new_lines, ("d",)),
+    (new_lines, ("a",)),
+    (new_lines, ("D",)),
+    (turnings, (AROUND,)),
+    (turnings, (AROUND[:2],)),
+    (turnings_at_one_place, (AROUND,)),
+    (turned, (AROUND, [0, 1])),
+    (turned, (AROUND[1:], [0, 1])),
+    (turned_at_one_place, (AROUND, [0, 1])),
+    (turned_at_one_place, (AROUND, [0, 1, 1, 2])),
+    (turned_at_one_place, (AROUND, [0, 1, 2])),
+    (all_rounds, ()),
+    (rounds_at_one_place, ()),
+    (row_to, (AROUND, [[2, 1], [1, 1], [0, 1]])),
+    (row_to, (AROUND, AROUND[:1])),
+    (row_at_one_place, (AROUND, [[0, 0], [2, 1], [1, 1]])),
+    (heaps, ()),
+    (web_text, ()),
+    (text_of_ride, (AROUND,)),
+    (text_of_ride, ([],)),
 )
 
 
@@ -146,6 +195,8 @@ class ToldLists(unittest.TestCase):
         for web in WEBS:
             for function in (parts_of, wants, riding, paper_of, round_of, one_ride):
                 self.told_again(function, (web,))
+            if web != FULL:
+                self.told_again(new_lines, (web, "z"))
             for function in (ends_at, plan_at):
                 for place in range(web[0]):
                     self.told_again(function, (web, place))
@@ -158,6 +209,28 @@ class ToldLists(unittest.TestCase):
         self.told_again(begun_at, (ALL_AT_ONE, ring, 30))
         self.told_again(ride_between, (ALL_AT_ONE, ring[0], ring[-1]))
         self.told_again(made_one, (knot("abab"), [(0, 0), (1, 0)], [(2, 0), (3, 0)]))
+
+    def test_changed_turnings_and_rounds_change_nothing(self):
+        for companies in ("ab", "abc", "abcd", "aabbc"):
+            web = knot(companies)
+            rounds = all_rounds(web)
+            self.told_again(all_rounds, (web,))
+            self.told_again(turnings, (web, rounds[0]))
+            for turning in turnings(web, rounds[0]):
+                self.told_again(turned, (web, rounds[0], turning))
+            for other in rounds[::5]:
+                self.told_again(row_to, (web, rounds[0], other))
+
+    def test_all_rounds_are_lists_of_their_own(self):
+        rounds = all_rounds(knot("abcd"))
+        due = repr(rounds[1:])
+        spoil(rounds[0])
+        self.assertEqual(repr(rounds[1:]), due)
+
+    def test_changed_read_texts_change_nothing(self):
+        self.told_again(read_ride, ("0+ 1- 2+",))
+        self.told_again(read_ride, ("",))
+        self.told_again(read_web, ("places 2\nline 0 1 a",))
 
     def test_told_is_not_what_was_handed_in(self):
         ring = [(0, 0), (1, 0), (2, 0)]
@@ -192,6 +265,7 @@ class ToldLists(unittest.TestCase):
             merged(handed, "a", "b"),
             merged(handed, "a", "a"),
             loosened(handed, [0, 0]),
+            read_web(web_text(handed)),
         ]
         for web in made:
             self.assertEqual(repr(web), repr(all_tuples(web)))

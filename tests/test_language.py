@@ -41,6 +41,8 @@ def bound_names(tree):
             yield node.name
         elif isinstance(node, ast.arg):
             yield node.arg
+        elif isinstance(node, (ast.MatchAs, ast.MatchStar)) and node.name is not None:
+            yield node.name
         elif isinstance(node, ast.Name) and isinstance(node.ctx, ast.Store):
             yield node.id
         elif isinstance(node, ast.alias):
@@ -95,6 +97,8 @@ class Form(unittest.TestCase):
             for node in ast.walk(tree):
                 if isinstance(node, ast.arg):
                     self.assertNotIn(node.arg, taken, name)
+                if isinstance(node, (ast.MatchAs, ast.MatchStar)):
+                    self.assertNotIn(node.name, taken, name)
                 if isinstance(node, ast.Name) and isinstance(node.ctx, ast.Store):
                     self.assertNotIn(node.id, taken, name)
 
